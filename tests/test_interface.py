@@ -1,0 +1,67 @@
+"""The names of the interface stand where the document lists them, with the parameters that it gives them."""
+
+import importlib
+import inspect
+import unittest
+
+FUNCTIONS = {
+    "names": ["is_name(value)", "is_number(value, least, most)"],
+    "lots": ["is_lot(value)", "is_lot_of(finds, value)", "lot_of(names)", "are_apart(one, other)",
+             "overlap(one, other)", "is_within(one, other)", "joined(one, other)", "common(one, other)",
+             "rest(one, other)"],
+    "orders": ["is_order(finds, value)", "place_in(order, name)", "keeps(order, lot)", "gaps_of(order, lot)",
+               "turned(order)", "cut_order(order, lot)"],
+    "facts": ["is_fact(value)", "is_marked_fact(value)", "names_in(fact)", "fits_fact(order, fact)",
+              "turned_fact(fact)", "fact_text(fact)", "check_facts(finds, facts)", "write_facts(facts)",
+              "read_facts(text)"],
+    "books": ["book_of(table)"],
+    "derivations": ["is_statement(value)", "first_fault(book, facts, entries)",
+                    "shows(book, facts, entries, statement)", "shortened(entries)", "write_entries(entries)",
+                    "read_entries(text)"],
+    "blocks": ["blocks_of(book)"],
+}
+CLASSES = {
+    ("tables", "Table"): ["__init__(self, holdings)", "finds(self)", "kinds(self)", "kinds_of(self, name)",
+                          "lot_of_kind(self, kind)", "holds(self, name, kind)", "text(self)", "__str__(self)",
+                          "__contains__(self, name)", "__eq__(self, other)", "__len__(self)", "__repr__(self)"],
+    ("books", "Book"): ["__init__(self, finds, words=())", "finds(self)", "words(self)", "lots(self)",
+                        "word(self, mark)", "with_word(self, mark, lot)", "__add__(self, word)",
+                        "without(self, mark)", "fits(self, value)", "text(self)", "__str__(self)", "__iter__(self)",
+                        "__contains__(self, mark)", "__eq__(self, other)", "__len__(self)", "__bool__(self)",
+                        "__repr__(self)"],
+    ("blocks", "Blocks"): ["__init__(self, finds)", "put(self, mark, lot)", "finds(self)", "blocks(self)",
+                           "words(self)", "derivation(self, lot)", "entries(self)", "twin(self)",
+                           "__contains__(self, lot)", "__len__(self)", "__repr__(self)"],
+}
+
+
+def told(name, function):
+    return name + str(inspect.signature(function))
+
+
+class InterfaceTest(unittest.TestCase):
+    def test_functions(self):
+        for file, lines in FUNCTIONS.items():
+            module = importlib.import_module("threeorders." + file)
+            for line in lines:
+                function = getattr(module, line.partition("(")[0])
+                self.assertEqual(told(line.partition("(")[0], function), line)
+                self.assertEqual(function.__module__, module.__name__)
+
+    def test_classes(self):
+        for (file, name), lines in CLASSES.items():
+            module = importlib.import_module("threeorders." + file)
+            self.assertEqual(getattr(module, name).__module__, module.__name__)
+            for line in lines:
+                method = vars(getattr(module, name))[line.partition("(")[0]]
+                self.assertEqual(told(line.partition("(")[0], method), line)
+
+    def test_static_methods(self):
+        for file, name in (("tables", "Table"), ("books", "Book")):
+            method = vars(getattr(importlib.import_module("threeorders." + file), name))["read"]
+            self.assertIsInstance(method, staticmethod)
+            self.assertEqual(told("read", method.__func__), "read(text)")
+
+    def test_generators(self):
+        blocks = importlib.import_module("threeorders.blocks")
+        self.assertTrue(inspect.isgeneratorfunction(blocks.Blocks.entries))

@@ -1,0 +1,1 @@
+"""Threeorders: what follows from finds that lay side by side."""
