@@ -2,22 +2,12 @@ import itertools
 import unittest
 
 from plain import (
-    TWELVE, Draws, any_values, has_bar, is_bar, plain_blocks, plain_keeps, plain_orders,
+    MARKS, TWELVE, Draws, all_lots, any_values, as_lots, has_bar, is_bar, plain_blocks, plain_keeps, plain_orders,
 )
 from threeorders.blocks import Blocks, blocks_of
 from threeorders.books import Book
 from threeorders.derivations import first_fault, shortened, shows
 from threeorders.errors import CannotStand, DuplicateName, InvalidFind, InvalidLot, InvalidName, NotABlock, TooMany
-
-MARKS = [one + other for one in "mnop" for other in "abcdefghijk"]
-
-
-def as_lots(blocks):
-    return sorted(tuple(sorted(block)) for block in blocks)
-
-
-def all_lots(finds):
-    return [lot for many in range(1, len(finds) + 1) for lot in itertools.combinations(sorted(finds), many)]
 
 
 def state_of(gathering):

@@ -18,6 +18,8 @@ METHODS = {
     "__init__", "__eq__", "__repr__", "__str__", "__len__", "__iter__", "__contains__", "__add__", "__or__", "__and__",
     "__bool__", "__call__",
 }
+LIBRARY = {"math": ("perm",)}
+CHANGING = ("append", "extend", "insert", "remove", "pop", "clear", "sort", "reverse", "update", "setdefault", "put")
 NODES_LEFT_OUT = (
     ast.AsyncFunctionDef, ast.AsyncFor, ast.AsyncWith, ast.Await, ast.GeneratorExp, ast.Global, ast.Div, ast.Mod,
 )
@@ -44,6 +46,36 @@ def bound_in(function):
 def defined_in(tree):
     names = [node.name for node in tree.body if isinstance(node, (ast.FunctionDef, ast.ClassDef))]
     return names + [node.targets[0].id for node in tree.body if isinstance(node, ast.Assign)]
+
+
+def changed_by(node):
+    """What a node stores into or calls a changing method of; None if it does neither."""
+    if isinstance(node, ast.Call) and isinstance(node.func, ast.Attribute) and node.func.attr in CHANGING:
+        return node.func.value
+    if isinstance(node, (ast.Attribute, ast.Subscript)) and isinstance(node.ctx, ast.Store):
+        return node
+    return None
+
+
+def reached_by_operators():
+    """The functions that an operator, or a method like it, may call, by name, each with its file and class."""
+    named = {}
+    for path, tree in trees():
+        for place in [tree, *[node for node in tree.body if isinstance(node, ast.ClassDef)]]:
+            cls = getattr(place, "name", "")
+            for function in [node for node in place.body if isinstance(node, ast.FunctionDef)]:
+                name = cls if function.name == "__init__" else function.name
+                named.setdefault(name, []).append((path.stem, cls, function))
+    waiting = [found for name in METHODS - {"__init__", "__call__"} for found in named.get(name, [])]
+    reached = []
+    while waiting:
+        found = waiting.pop()
+        if found not in reached:
+            reached.append(found)
+            for node in ast.walk(found[2]):
+                if isinstance(node, ast.Call) and isinstance(node.func, (ast.Name, ast.Attribute)):
+                    waiting += named.get(getattr(node.func, "id", None) or getattr(node.func, "attr", None), [])
+    return reached
 
 
 def imported_in(tree):
@@ -98,7 +130,7 @@ class CodeTest(unittest.TestCase):
                     self.assertEqual(node.level, 0)
                     for alias in node.names:
                         self.assertIsNone(alias.asname)
-                        self.assertIn(alias.name, defined[node.module], path)
+                        self.assertIn(alias.name, LIBRARY.get(node.module) or defined[node.module], path)
                     used = {name.id for name in ast.walk(tree) if isinstance(name, ast.Name)}
                     self.assertTrue({alias.name for alias in node.names} <= used, (path, node.module))
 
@@ -140,6 +172,18 @@ class CodeTest(unittest.TestCase):
                     stored = {each.attr for each in ast.walk(node) if isinstance(each, ast.Attribute)
                               and isinstance(each.ctx, ast.Store)}
                     self.assertFalse(stored & set(methods), (path, node.name))
+
+    def test_operators_change_nothing_that_they_did_not_create(self):
+        for path, cls, function in reached_by_operators():
+            own = {target.id for node in ast.walk(function) if isinstance(node, ast.Assign)
+                   for target in node.targets if isinstance(target, ast.Name)}
+            for node in ast.walk(function):
+                self.assertNotIsInstance(node, (ast.Yield, ast.YieldFrom, ast.Delete), (path, function.name))
+                changed = changed_by(node)
+                if isinstance(changed, ast.Attribute) and function.name == "__init__":
+                    self.assertEqual(ast.unparse(changed.value), "self")
+                elif changed is not None:
+                    self.assertIn(ast.unparse(changed).partition("[")[0], own, (path, function.name, node.lineno))
 
     def test_decorators(self):
         for path, tree in trees():

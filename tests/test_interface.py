@@ -19,6 +19,18 @@ FUNCTIONS = {
                     "shows(book, facts, entries, statement)", "shortened(entries)", "write_entries(entries)",
                     "read_entries(text)"],
     "blocks": ["blocks_of(book)"],
+    "bars": ["is_standing(book)", "bar_of(book)", "bar_entries(book)", "least_part(book)", "kept_words(book)",
+             "needless(book)", "core(book)"],
+    "trees": ["tree_of(book)"],
+    "three": ["three_orders(tree)", "follows(tree, lot)", "refuted(tree, lot)"],
+    "alike": ["alike(one, other)", "differing(one, other)", "parted_by(one, other)"],
+    "shared": ["shares(orders, lot)", "shared_tree(orders)", "fewest_orders(orders)"],
+    "rings": ["is_ring_order(finds, value)", "is_arc(order, lot)", "opened(order, name)"],
+    "webs": ["web_of(book, facts=())"],
+    "counting": ["count_orders(web)", "order_at(web, rank)", "rank_of(web, order)", "all_orders(web)"],
+    "chains": ["derived(book, facts, statement)"],
+    "surely": ["surely_before(web, x, y)", "may_before(web, x, y)", "surely_between(web, x, z, y)",
+               "may_between(web, x, z, y)", "surely_together(web, lot)", "may_together(web, lot)", "reasons(web, lot)"],
 }
 CLASSES = {
     ("tables", "Table"): ["__init__(self, holdings)", "finds(self)", "kinds(self)", "kinds_of(self, name)",
@@ -32,6 +44,19 @@ CLASSES = {
     ("blocks", "Blocks"): ["__init__(self, finds)", "put(self, mark, lot)", "finds(self)", "blocks(self)",
                            "words(self)", "derivation(self, lot)", "entries(self)", "twin(self)",
                            "__contains__(self, lot)", "__len__(self)", "__repr__(self)"],
+    ("trees", "Tree"): ["__init__(self, finds, lots=())", "finds(self)", "blocks(self)", "nodes(self)",
+                        "shape(self, lot)", "children(self, lot)", "depth(self, lot)", "least_block(self, lot)",
+                        "parting(self, x, y)", "walk(self)", "fits(self, value)", "with_lot(self, lot)",
+                        "__add__(self, lot)", "__or__(self, other)", "__and__(self, other)", "within(self, other)",
+                        "cut_to(self, lot)", "__contains__(self, lot)", "text(self)", "__str__(self)",
+                        "__eq__(self, other)", "__len__(self)", "__repr__(self)"],
+    ("rings", "Ring"): ["__init__(self, finds, lots=())", "finds(self)", "lots(self)", "tree_past(self, name)",
+                        "arcs(self)", "many(self)", "order_at(self, rank)", "three_rings(self)", "fits(self, value)",
+                        "__contains__(self, lot)", "__eq__(self, other)", "__len__(self)", "__repr__(self)"],
+    ("webs", "Web"): ["__init__(self, tree, facts=())", "facts(self)", "links(self, lot)", "direction(self, lot)",
+                      "ways(self, lot)", "fits(self, value)", "with_fact(self, mark, fact)", "__add__(self, marked)",
+                      "without(self, mark)", "can_take(self, *facts)", "__eq__(self, other)", "__len__(self)",
+                      "__bool__(self)", "__repr__(self)"],
 }
 
 
@@ -57,11 +82,14 @@ class InterfaceTest(unittest.TestCase):
                 self.assertEqual(told(line.partition("(")[0], method), line)
 
     def test_static_methods(self):
-        for file, name in (("tables", "Table"), ("books", "Book")):
+        for file, name in (("tables", "Table"), ("books", "Book"), ("trees", "Tree")):
             method = vars(getattr(importlib.import_module("threeorders." + file), name))["read"]
             self.assertIsInstance(method, staticmethod)
             self.assertEqual(told("read", method.__func__), "read(text)")
 
     def test_generators(self):
         blocks = importlib.import_module("threeorders.blocks")
-        self.assertTrue(inspect.isgeneratorfunction(blocks.Blocks.entries))
+        trees = importlib.import_module("threeorders.trees")
+        counting = importlib.import_module("threeorders.counting")
+        for function in (blocks.Blocks.entries, trees.Tree.walk, counting.all_orders):
+            self.assertTrue(inspect.isgeneratorfunction(function))

@@ -4,7 +4,7 @@ from threeorders.books import MOST_WORDS
 from threeorders.checks import check_finds
 from threeorders.closing import Closing
 from threeorders.derivations import shortened
-from threeorders.errors import CannotStand, DuplicateName, InvalidLot, InvalidName, NotABlock, TooMany
+from threeorders.errors import DuplicateName, InvalidLot, InvalidName, NotABlock, TooMany
 from threeorders.lots import is_lot_of
 from threeorders.names import is_name
 
@@ -21,12 +21,8 @@ class Blocks:
     def put(self, mark, lot):
         """Takes a word and tells the blocks that are new."""
         self._check_word(mark, lot)
-        closing = self._closing.twin()
-        closing.put(mark, lot)
-        bar = closing.bar()
-        if bar is not None:
-            one, two, three = bar
-            raise CannotStand(one, two, three)
+        closing = Closing(self._finds, self._words + [(mark, lot)])
+        closing.check_bar()
         fresh = closing.lots_from(len(self._closing))
         self._closing = closing
         self._words.append((mark, lot))
@@ -58,7 +54,7 @@ class Blocks:
         """An independent gathering in the same state."""
         other = Blocks(self._finds)
         other._words = list(self._words)
-        other._closing = self._closing.twin()
+        other._closing = self._closing
         return other
 
     def _check_word(self, mark, lot):

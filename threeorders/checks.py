@@ -1,6 +1,7 @@
 """Checks of arguments that several classes and functions share."""
 
-from threeorders.errors import DuplicateName, InvalidFind, TooMany
+from threeorders.errors import DuplicateName, InvalidFind, InvalidLot, TooMany
+from threeorders.lots import is_lot_of
 from threeorders.names import is_name
 
 MOST_FINDS = 12
@@ -20,6 +21,21 @@ def check_finds(finds):
     for at, name in enumerate(finds):
         if not is_name(name) or name in finds[:at]:
             raise InvalidFind(at)
+
+
+def check_lot(finds, lot):
+    """Raises InvalidLot unless any value is a lot of some finds."""
+    if not is_lot_of(finds, lot):
+        raise InvalidLot(0)
+
+
+def check_lots(finds, lots):
+    """Raises InvalidLot unless any value is a list of lots of some finds."""
+    if not is_listed(lots):
+        raise InvalidLot(-1)
+    for at, lot in enumerate(lots):
+        if not is_lot_of(finds, lot):
+            raise InvalidLot(at)
 
 
 def check_different(names):
