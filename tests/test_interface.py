@@ -31,6 +31,15 @@ FUNCTIONS = {
     "chains": ["derived(book, facts, statement)"],
     "surely": ["surely_before(web, x, y)", "may_before(web, x, y)", "surely_between(web, x, z, y)",
                "may_between(web, x, z, y)", "surely_together(web, lot)", "may_together(web, lot)", "reasons(web, lot)"],
+    "outlooks": ["is_question(finds, value)", "holds(order, question)", "outlook(web, question)",
+                 "witness(web, question)"],
+    "places": ["places(web, name)", "distances(web, x, y)", "order_with_place(web, name, place)",
+               "order_with_distance(web, x, y, distance)"],
+    "prices": ["cost(order, *, times, weights)", "cheapest(web, *, times, weights)",
+               "cheapest_at(web, name, place, *, times, weights)", "lump(lot, *, times, weights)"],
+    "spans": ["span_in(order, lot)", "spans_of(table, order)", "relation_in(order, one, other)",
+              "relations(web, one, other)", "kinds_at(web, table, place)"],
+    "meetings": ["meetings_of(table)"],
 }
 CLASSES = {
     ("tables", "Table"): ["__init__(self, holdings)", "finds(self)", "kinds(self)", "kinds_of(self, name)",
@@ -57,6 +66,9 @@ CLASSES = {
                       "ways(self, lot)", "fits(self, value)", "with_fact(self, mark, fact)", "__add__(self, marked)",
                       "without(self, mark)", "can_take(self, *facts)", "__eq__(self, other)", "__len__(self)",
                       "__bool__(self)", "__repr__(self)"],
+    ("meetings", "Meetings"): ["__init__(self, kinds, pairs=())", "kinds(self)", "pairs(self)",
+                               "meet(self, one, other)", "beside(self, kind)", "greatest_lots(self)",
+                               "__eq__(self, other)", "__len__(self)", "__repr__(self)"],
 }
 
 

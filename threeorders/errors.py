@@ -1,13 +1,6 @@
 """The errors of the package. Each one keeps what it was given, and the name of its class as its code."""
 
-
-def _copied(value):
-    """Lists that were given to an object may be changed behind it, so it keeps lists of its own."""
-    if isinstance(value, list):
-        return [_copied(item) for item in value]
-    if isinstance(value, tuple):
-        return tuple([_copied(item) for item in value])
-    return value
+from threeorders.copies import copied
 
 
 class FindError(ValueError):
@@ -18,7 +11,7 @@ class InvalidName(FindError):
     """A value is no name."""
 
     def __init__(self, value):
-        self.value = _copied(value)
+        self.value = copied(value)
         self.code = "InvalidName"
 
 
@@ -26,7 +19,7 @@ class InvalidLot(FindError):
     """A lot, or an item of one, is wrong."""
 
     def __init__(self, at):
-        self.at = _copied(at)
+        self.at = copied(at)
         self.code = "InvalidLot"
 
 
@@ -34,7 +27,7 @@ class InvalidFind(FindError):
     """The finds, or one of them, are wrong."""
 
     def __init__(self, at):
-        self.at = _copied(at)
+        self.at = copied(at)
         self.code = "InvalidFind"
 
 
@@ -42,7 +35,7 @@ class InvalidWord(FindError):
     """The words of a book, or one of them, are wrong."""
 
     def __init__(self, at):
-        self.at = _copied(at)
+        self.at = copied(at)
         self.code = "InvalidWord"
 
 
@@ -50,7 +43,7 @@ class InvalidFact(FindError):
     """The facts, or one of them, are wrong."""
 
     def __init__(self, at):
-        self.at = _copied(at)
+        self.at = copied(at)
         self.code = "InvalidFact"
 
 
@@ -58,7 +51,7 @@ class InvalidOrder(FindError):
     """The given orders, or one of them, are wrong."""
 
     def __init__(self, at):
-        self.at = _copied(at)
+        self.at = copied(at)
         self.code = "InvalidOrder"
 
 
@@ -66,7 +59,7 @@ class InvalidKind(FindError):
     """The kinds, or one of them, are wrong."""
 
     def __init__(self, at):
-        self.at = _copied(at)
+        self.at = copied(at)
         self.code = "InvalidKind"
 
 
@@ -74,7 +67,7 @@ class InvalidPair(FindError):
     """The pairs, or one of them, are wrong."""
 
     def __init__(self, at):
-        self.at = _copied(at)
+        self.at = copied(at)
         self.code = "InvalidPair"
 
 
@@ -82,7 +75,7 @@ class InvalidDeed(FindError):
     """A deed of a call is wrong."""
 
     def __init__(self, at):
-        self.at = _copied(at)
+        self.at = copied(at)
         self.code = "InvalidDeed"
 
 
@@ -90,8 +83,8 @@ class InvalidText(FindError):
     """A line of a text is wrong."""
 
     def __init__(self, line, why):
-        self.line = _copied(line)
-        self.why = _copied(why)
+        self.line = copied(line)
+        self.why = copied(why)
         self.code = "InvalidText"
 
 
@@ -99,7 +92,7 @@ class InvalidNumber(FindError):
     """A value is none of the numbers that may stand there."""
 
     def __init__(self, value):
-        self.value = _copied(value)
+        self.value = copied(value)
         self.code = "InvalidNumber"
 
 
@@ -128,7 +121,7 @@ class InvalidTimes(FindError):
     """A find has no time."""
 
     def __init__(self, name):
-        self.name = _copied(name)
+        self.name = copied(name)
         self.code = "InvalidTimes"
 
 
@@ -136,7 +129,7 @@ class InvalidWeights(FindError):
     """A find has no weight."""
 
     def __init__(self, name):
-        self.name = _copied(name)
+        self.name = copied(name)
         self.code = "InvalidWeights"
 
 
@@ -144,7 +137,7 @@ class DuplicateName(FindError):
     """A name stands twice."""
 
     def __init__(self, name):
-        self.name = _copied(name)
+        self.name = copied(name)
         self.code = "DuplicateName"
 
 
@@ -152,7 +145,7 @@ class TooMany(FindError):
     """There are more than may be."""
 
     def __init__(self, most):
-        self.most = _copied(most)
+        self.most = copied(most)
         self.code = "TooMany"
 
 
@@ -160,7 +153,7 @@ class TooFew(FindError):
     """There are fewer than must be."""
 
     def __init__(self, least):
-        self.least = _copied(least)
+        self.least = copied(least)
         self.code = "TooFew"
 
 
@@ -168,9 +161,9 @@ class CannotStand(FindError):
     """A book does not stand: it has a bar of three lots."""
 
     def __init__(self, one, two, three):
-        self.one = _copied(one)
-        self.two = _copied(two)
-        self.three = _copied(three)
+        self.one = copied(one)
+        self.two = copied(two)
+        self.three = copied(three)
         self.code = "CannotStand"
 
 
@@ -185,7 +178,7 @@ class Clash(FindError):
     """No order fits the facts with these marks."""
 
     def __init__(self, marks):
-        self.marks = _copied(marks)
+        self.marks = copied(marks)
         self.code = "Clash"
 
 
@@ -207,7 +200,7 @@ class NotABlock(FindError):
     """A value is no block."""
 
     def __init__(self, lot):
-        self.lot = _copied(lot)
+        self.lot = copied(lot)
         self.code = "NotABlock"
 
 
@@ -222,7 +215,7 @@ class Same(FindError):
     """Two names that must differ are the same."""
 
     def __init__(self, name):
-        self.name = _copied(name)
+        self.name = copied(name)
         self.code = "Same"
 
 
@@ -230,8 +223,8 @@ class NoTable(FindError):
     """No table has the meetings."""
 
     def __init__(self, why, found):
-        self.why = _copied(why)
-        self.found = _copied(found)
+        self.why = copied(why)
+        self.found = copied(found)
         self.code = "NoTable"
 
 
@@ -239,7 +232,7 @@ class Taken(FindError):
     """A name is in use already."""
 
     def __init__(self, name):
-        self.name = _copied(name)
+        self.name = copied(name)
         self.code = "Taken"
 
 
@@ -247,7 +240,7 @@ class InUse(FindError):
     """A saying names the find."""
 
     def __init__(self, mark):
-        self.mark = _copied(mark)
+        self.mark = copied(mark)
         self.code = "InUse"
 
 
@@ -266,7 +259,7 @@ class UnknownName(Missing):
     """Nothing has this name."""
 
     def __init__(self, name):
-        self.name = _copied(name)
+        self.name = copied(name)
         self.code = "UnknownName"
 
 
@@ -274,7 +267,7 @@ class UnknownFind(Missing):
     """No find has this name."""
 
     def __init__(self, name):
-        self.name = _copied(name)
+        self.name = copied(name)
         self.code = "UnknownFind"
 
 
@@ -282,7 +275,7 @@ class UnknownNode(Missing):
     """A value is no node."""
 
     def __init__(self, lot):
-        self.lot = _copied(lot)
+        self.lot = copied(lot)
         self.code = "UnknownNode"
 
 
@@ -290,7 +283,7 @@ class UnknownKept(Missing):
     """No kept derivation has this number."""
 
     def __init__(self, at):
-        self.at = _copied(at)
+        self.at = copied(at)
         self.code = "UnknownKept"
 
 

@@ -15,11 +15,16 @@ def says_self(fact):
     return fact[0] == "before" and fact[1] == fact[2]
 
 
+def number_in(children, name):
+    """The number of the child that contains a find."""
+    return [name in child for child in children].index(True) + 1
+
+
 def link_of(tree, x, y):
     """The node at which two finds part, and the link that it gets if the first one stands before the second one."""
     node = tree.parting(x, y)
     children = tree.children(node)
-    return node, (_number_in(children, x), _number_in(children, y))
+    return node, (number_in(children, x), number_in(children, y))
 
 
 def links_of(tree, facts):
@@ -49,8 +54,3 @@ def _can_link(shape, links):
             return False
         left = fewer
     return True
-
-
-def _number_in(children, name):
-    """The number of the child that contains a find."""
-    return [name in child for child in children].index(True) + 1
