@@ -57,8 +57,12 @@ def changed_by(node):
     return None
 
 
+def is_property(function):
+    return "property" in [ast.unparse(decorator) for decorator in function.decorator_list]
+
+
 def reached_by_operators():
-    """The functions that an operator, or a method like it, may call, by name, each with its file and class."""
+    """The functions that an operator, a property or a method like them may call, each with its file and class."""
     named = {}
     for path, tree in trees():
         for place in [tree, *[node for node in tree.body if isinstance(node, ast.ClassDef)]]:
@@ -67,6 +71,7 @@ def reached_by_operators():
                 name = cls if function.name == "__init__" else function.name
                 named.setdefault(name, []).append((path.stem, cls, function))
     waiting = [found for name in METHODS - {"__init__", "__call__"} for found in named.get(name, [])]
+    waiting += [found for each in named.values() for found in each if is_property(found[2])]
     reached = []
     while waiting:
         found = waiting.pop()
@@ -173,6 +178,14 @@ class CodeTest(unittest.TestCase):
                               and isinstance(each.ctx, ast.Store)}
                     self.assertFalse(stored & set(methods), (path, node.name))
 
+    def test_no_name_is_a_method_and_an_attribute(self):
+        nodes = [node for _, tree in trees() for node in ast.walk(tree)]
+        stored = {node.attr for node in nodes if isinstance(node, ast.Attribute) and isinstance(node.ctx, ast.Store)}
+        bodies = [item for node in nodes if isinstance(node, ast.ClassDef) for item in node.body]
+        methods = {item.name for item in bodies if isinstance(item, ast.FunctionDef)}
+        self.assertEqual(stored & methods, set())
+        self.assertTrue(len(stored) > 20 and len(methods) > 50)
+
     def test_operators_change_nothing_that_they_did_not_create(self):
         for path, cls, function in reached_by_operators():
             own = {target.id for node in ast.walk(function) if isinstance(node, ast.Assign)
@@ -184,6 +197,19 @@ class CodeTest(unittest.TestCase):
                     self.assertEqual(ast.unparse(changed.value), "self")
                 elif changed is not None:
                     self.assertIn(ast.unparse(changed).partition("[")[0], own, (path, function.name, node.lineno))
+
+    def test_stars_in_calls(self):
+        for path, tree in trees():
+            for call in [node for node in ast.walk(tree) if isinstance(node, ast.Call)]:
+                for item in [item for item in call.args if isinstance(item, ast.Starred)]:
+                    self.assertIsInstance(item.value, (ast.Name, ast.Attribute), (path, call.lineno))
+
+    def test_what_finally_contains(self):
+        for path, tree in trees():
+            for node in [node for node in ast.walk(tree) if isinstance(node, ast.Try)]:
+                for line in node.finalbody:
+                    self.assertIsInstance(line, ast.Assign, (path, line.lineno))
+                    self.assertIsInstance(line.value, (ast.Name, ast.Attribute, ast.Constant), (path, line.lineno))
 
     def test_decorators(self):
         for path, tree in trees():

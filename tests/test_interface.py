@@ -40,6 +40,12 @@ FUNCTIONS = {
     "spans": ["span_in(order, lot)", "spans_of(table, order)", "relation_in(order, one, other)",
               "relations(web, one, other)", "kinds_at(web, table, place)"],
     "meetings": ["meetings_of(table)"],
+    "tabled": ["is_ring_without_chords(meetings, value)", "ring_without_chords(meetings)",
+               "way_past(meetings, one, other, past)", "three_apart(meetings)", "table_of(meetings)"],
+    "glue": ["groups(names, pairs)", "table_by(table, pairs)", "book_by(book, pairs)", "facts_by(finds, facts, pairs)"],
+    "sayings": ["is_claim(value)", "claim_names(claim)", "claim_text(claim)", "read_claim(text)"],
+    "officetexts": ["write_office(office)", "read_office(text)", "write_journal(journal)", "read_journal(text)",
+                    "played(journal)"],
 }
 CLASSES = {
     ("tables", "Table"): ["__init__(self, holdings)", "finds(self)", "kinds(self)", "kinds_of(self, name)",
@@ -69,6 +75,15 @@ CLASSES = {
     ("meetings", "Meetings"): ["__init__(self, kinds, pairs=())", "kinds(self)", "pairs(self)",
                                "meet(self, one, other)", "beside(self, kind)", "greatest_lots(self)",
                                "__eq__(self, other)", "__len__(self)", "__repr__(self)"],
+    ("sayings", "Saying"): ["__init__(self, digger, mark, claim)", "text(self)", "__eq__(self, other)",
+                            "__repr__(self)"],
+    ("office", "Office"): ["__init__(self)", "do(self, *deeds)", "undo(self)", "redo(self)", "history(self)",
+                           "journal(self)", "finds(self)", "kinds_of(self, name)", "sayings(self)", "heads(self)",
+                           "table(self)", "book(self)", "facts(self)", "web(self)", "tried(self, *deeds)",
+                           "keep(self, statement)", "kept(self, number)", "is_good(self, number)",
+                           "kept_statements(self)", "say(self, line)", "__call__(self, line)", "log(self)",
+                           "text(self)", "twin(self)", "__eq__(self, other)", "__len__(self)", "__bool__(self)",
+                           "__repr__(self)"],
 }
 
 
@@ -98,6 +113,11 @@ class InterfaceTest(unittest.TestCase):
             method = vars(getattr(importlib.import_module("threeorders." + file), name))["read"]
             self.assertIsInstance(method, staticmethod)
             self.assertEqual(told("read", method.__func__), "read(text)")
+
+    def test_properties(self):
+        office = importlib.import_module("threeorders.office")
+        for name in ("stands", "busy"):
+            self.assertIsInstance(vars(office.Office)[name], property)
 
     def test_generators(self):
         blocks = importlib.import_module("threeorders.blocks")

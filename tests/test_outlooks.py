@@ -1,40 +1,14 @@
 import itertools
 import unittest
 
-from plain import (
-    MARKS, TWELVE, Draws, all_lots, check_raises, drawn_case, more_values, orders_of, plain_keeps, plain_orders,
-)
+from plain import MARKS, TWELVE, Draws, check_raises, drawn_case, more_values, orders_of, plain_keeps, plain_orders
+from questions import all_questions, is_true, plain_outlook
 from threeorders.books import Book
 from threeorders.counting import all_orders
 from threeorders.errors import CannotStand, Clash, InvalidQuestion
 from threeorders.outlooks import holds, is_question, outlook, witness
 from threeorders.trees import Tree
 from threeorders.webs import Web, web_of
-
-
-def all_questions(finds):
-    questions = [("together", lot) for lot in all_lots(finds)]
-    questions += [("before", x, y) for x, y in itertools.permutations(finds, 2)]
-    questions += [(word, x) for x in finds for word in ("first", "last")]
-    return questions + [("between", *names) for names in itertools.permutations(finds, 3)]
-
-
-def is_true(order, question):
-    """Whether a question is true by [26]."""
-    word, told = question[0], question[1:]
-    if word == "together":
-        return plain_keeps(order, told[0])
-    places = [order.index(name) for name in told]
-    if word == "before":
-        return places[0] < places[1]
-    if word == "between":
-        return places[0] < places[1] < places[2] or places[2] < places[1] < places[0]
-    return places[0] == (0 if word == "first" else len(order) - 1)
-
-
-def plain_outlook(orders, question):
-    said = {is_true(order, question) for order in orders}
-    return "ever" if len(said) == 2 else ("surely" if True in said else "never")
 
 
 class SmallWebsTest(unittest.TestCase):

@@ -2,11 +2,12 @@
 
 from threeorders.bars import bar_entries, is_standing
 from threeorders.closing import Closing
-from threeorders.derivations import is_statement, shortened
+from threeorders.derivations import is_statement_of, shortened
 from threeorders.errors import InvalidStatement, NotShown
 from threeorders.facts import check_facts
 from threeorders.links import befores_in, link_of
-from threeorders.lots import is_within, lot_of
+from threeorders.lots import lot_of
+from threeorders.paths import path_along
 from threeorders.trees import tree_of
 from threeorders.webs import Web
 
@@ -16,7 +17,7 @@ _NEVER = ("never",)
 def derived(book, facts, statement):
     """A shortened derivation in a case that shows a statement."""
     check_facts(book.finds(), facts)
-    if not _is_statement_of(book.finds(), statement):
+    if not is_statement_of(book.finds(), statement):
         raise InvalidStatement()
     if statement == _NEVER and not is_standing(book):
         return bar_entries(book)
@@ -96,7 +97,7 @@ class Draft:
 
     def _show_over(self, children, link, sources, pair):
         """The number of an entry that two finds stand as the links of their loose node lead, or None."""
-        path = _path(list(sources), link)
+        path = path_along(list(sources), link[0], link[1])
         if path is None:
             return None
         names = [pair[0], *[children[number - 1][0] for number in path[1:-1]], pair[1]]
@@ -130,13 +131,6 @@ class Draft:
         return len(self._entries) - 1
 
 
-def _is_statement_of(finds, value):
-    """Whether any value is a statement with names of some finds alone."""
-    if not is_statement(value):
-        return False
-    return is_within(value[1] if value[0] == "lot" else value[1:], finds)
-
-
 def _cuts(one, other):
     """The ascending pair of two different cuts of a row: these two, or if they are one, this one and another one.
 
@@ -146,19 +140,3 @@ def _cuts(one, other):
     if one == other:
         other = 2 if one == 1 else 1
     return min(one, other), max(one, other)
-
-
-def _path(links, link):
-    """The numbers of children from the first one of a pair to the second one, along links, or None."""
-    first, last = link
-    met = {first: True}
-    paths = [[first]]
-    while len(paths) > 0:
-        path = paths.pop(0)
-        if path[-1] == last:
-            return path
-        for i, j in links:
-            if i == path[-1] and j not in met:
-                met[j] = True
-                paths.append([*path, j])
-    return None

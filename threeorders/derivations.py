@@ -4,7 +4,7 @@ from threeorders.checks import is_listed
 from threeorders.errors import InvalidText
 from threeorders.facts import check_facts
 from threeorders.lots import are_apart, common, is_lot, is_within, joined, overlap, rest
-from threeorders.names import are_names, is_number
+from threeorders.names import are_names, is_number, is_numeral
 from threeorders.texts import lines_of
 
 RULES = ("single", "all", "word", "union", "common", "rest", "fact", "apart", "across", "chain", "bar", "self")
@@ -14,7 +14,6 @@ _MANY_ELDERS = {
     "fact": 1, "apart": 3, "across": 3, "chain": 2, "bar": 3, "self": 1,
 }
 _RULES_WITH_A_MARK = ("word", "fact")
-_DIGITS = "0123456789"
 _MOST_DIGITS = 3
 _NEVER = ("never",)
 
@@ -26,6 +25,13 @@ def is_statement(value):
     if value[0] == "lot":
         return len(value) == 2 and is_lot(value[1])
     return value == _NEVER or _is_before(value)
+
+
+def is_statement_of(finds, value):
+    """Whether any value is a statement with names of some finds alone."""
+    if not is_statement(value):
+        return False
+    return is_within(value[1] if value[0] == "lot" else value[1:], finds)
 
 
 def first_fault(book, facts, entries):
@@ -231,7 +237,7 @@ def _read_entry(line):
         return None
     if rule in _RULES_WITH_A_MARK:
         return (statement, rule, tuple(words)) if are_names(words) else None
-    if not all([_is_numeral(word) for word in words]):
+    if not all([is_numeral(word, _MOST_DIGITS) for word in words]):
         return None
     return (statement, rule, tuple([int(word) for word in words]))
 
@@ -241,10 +247,3 @@ def _read_statement(words):
     if words[0] == "lot":
         return ("lot", tuple(words[1:]))
     return tuple(words)
-
-
-def _is_numeral(word):
-    """Whether a word is a number of at most 3 digits, without leading zeros and signs."""
-    if not 1 <= len(word) <= _MOST_DIGITS or not all([sign in _DIGITS for sign in word]):
-        return False
-    return word == "0" or word[0] != "0"

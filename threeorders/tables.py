@@ -59,7 +59,7 @@ class Table:
         holdings = []
         for at, line in enumerate(lines_of(text)):
             words = line.split(" ")
-            why = _fault_of(words, holdings)
+            why = fault_of_find(words, holdings)
             if why is not None:
                 raise InvalidText(at, why)
             holdings.append((words[1], words[2:]))
@@ -95,8 +95,8 @@ def _kinds_in(holdings):
     return sorted(set([kind for _, kinds in holdings for kind in kinds]))
 
 
-def _fault_of(words, holdings):
-    """What is wrong with a line behind the holdings of the lines ahead; None if nothing is."""
+def fault_of_find(words, holdings):
+    """What is wrong with a line of a find behind the holdings of the lines ahead; None if nothing is."""
     names = words[1:]
     if words[0] != "find" or len(names) == 0 or not are_names(names) or names[1:] != sorted(set(names[1:])):
         return "form"
