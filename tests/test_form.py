@@ -139,6 +139,15 @@ class CodeTest(unittest.TestCase):
                     used = {name.id for name in ast.walk(tree) if isinstance(name, ast.Name)}
                     self.assertTrue({alias.name for alias in node.names} <= used, (path, node.module))
 
+    def test_no_two_files_import_from_each_other(self):
+        needs = {path.stem: {node.module.split(".")[-1] for node in tree.body if isinstance(node, ast.ImportFrom)
+                             and node.module.startswith("threeorders.")} for path, tree in trees()}
+        done = set()
+        while len(done) < len(needs):
+            more = {name for name, needed in needs.items() if needed <= done} - done
+            self.assertTrue(more, sorted(set(needs) - done))
+            done |= more
+
     def test_nothing_that_is_left_out(self):
         for path, tree in trees():
             for node in ast.walk(tree):

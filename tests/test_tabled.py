@@ -139,7 +139,7 @@ class ByHandTest(unittest.TestCase):
         self.assertIsNone(ring_without_chords(LEGS))
         self.assertEqual(way_past(LEGS, "a", "b", "c"), ["a", "x", "mid", "y", "b"])
         self.assertEqual(way_past(meetings=LEGS, one="b", other="a", past="z"), None)
-        self.assertEqual(three_apart(LEGS), ("a", "b", "c"))
+        self.assertEqual(three_apart(meetings=LEGS), ("a", "b", "c"))
         check_raises(self, NoTable("apart", ("a", "b", "c")), table_of, LEGS)
         both = Meetings(LEGS.kinds() + ["n", "o"], LEGS.pairs() + [("n", "o"), ("n", "x"), ("o", "a")])
         self.assertEqual(three_apart(both), ("a", "b", "c"))

@@ -15,13 +15,14 @@ def groups(names, pairs):
     for at, pair in enumerate(pairs):
         if not isinstance(pair, tuple) or len(pair) != 2 or not are_names(pair):
             raise InvalidPair(at)
-    members = {name: [name] for name in [*names, *[name for pair in pairs for name in pair]]}
+    told = [*names, *[name for pair in pairs for name in pair]]
+    members = {name: [name] for name in told}
     for one, other in pairs:
         if other not in members[one]:
             both = members[one] + members[other]
             for name in both:
                 members[name] = both
-    return {name: min([other for other in members[name] if other in names]) for name in sorted(set(names))}
+    return {name: min([each for each in members[name] if each in names]) for name in sorted(set(names))}
 
 
 def table_by(table, pairs):

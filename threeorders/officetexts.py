@@ -71,10 +71,11 @@ def _fault_of_saying(saying, holdings, sayings):
     _, _, mark, claim = saying
     if len(sayings) == MOST_SAYINGS:
         return "many"
+    finds = [find for find, _ in holdings]
     kinds = [kind for _, held in holdings for kind in held]
     if mark in kinds or mark in [earlier.mark for earlier in sayings]:
         return "double"
-    if not all([name in [find for find, _ in holdings] for name in claim_names(claim)]):
+    if not all([name in finds for name in claim_names(claim)]):
         return "unknown"
     return None
 
